@@ -242,13 +242,17 @@ func shifted(register uint32) uint32 {
 	return register
 }
 
+// putLowFirst fills bytes with a number, the lowest first.
+func putLowFirst(written []byte, n int64) {
+	for i := range len(written) {
+		written[i] = byte(n >> (8 * i))
+	}
+}
+
 // sumOf is the four bytes of a text's CRC, the lowest first.
 func sumOf(text string) string {
 	var sum [sumBytes]byte
-	crc := Crc(text)
-	for i := range sum {
-		sum[i] = byte(crc >> (8 * i))
-	}
+	putLowFirst(sum[:], Crc(text))
 	return string(sum[:])
 }
 
